@@ -1,0 +1,49 @@
+package orderbook
+
+// The kinds of records.
+const (
+	recordAccepted = iota + 1
+	recordRejected
+	recordTraded
+	recordCancelled
+	recordReplaced
+	recordShown
+	recordMoved
+	recordParked
+)
+
+const recordSize = 22
+
+// readRecord reads the record with which a text begins.
+func readRecord(text string) (Record, error) {
+	if len(text) < recordSize {
+		return Record{}, ErrShort
+	}
+	kind := numberAt(text, 0, 1)
+	if kind < recordAccepted || kind > recordParked {
+		return Record{}, ErrRecord
+	}
+	return Record{
+		Kind:   kind,
+		Seq:    numberAt(text, 1, 4),
+		ID:     numberAt(text, 5, 4),
+		Other:  numberAt(text, 9, 4),
+		Price:  numberAt(text, 13, 4),
+		Qty:    numberAt(text, 17, 4),
+		Reason: numberAt(text, 21, 1),
+	}, nil
+}
+
+func readRecords(text string) ([]Record, error) {
+	var list []Record
+	for len(text) > 0 {
+		record, err := readRecord(text)
+		if err != nil {
+			return nil, &Fault{At: len(list), Err: err}
+		}
+		list = append(list, record)
+		text = text[recordSize:]
+	}
+	// Growing left spare room: the list is handed out without it.
+	return list[:len(list):len(list)], nil
+}
