@@ -86,16 +86,32 @@ func Records(text string) ([]Record, error) { return readRecords(text) }
 func Audit(text string) ([]State, error) { return nil, nil }
 
 // Engine is a book and its orders.
-type Engine struct{}
+type Engine struct {
+	config  Config
+	draw    Draw
+	time    int
+	waiting string // the bytes that have come, and are no whole frame yet
+	told    stream
+
+	live      map[int]*order
+	ended     map[int]State
+	buy, sell side
+	places    int // how many were taken
+
+	worth, traded int // of all trades: prices times quantities, and quantities
+}
 
 // New makes an empty book (P6).
-func New(c Config, draw Draw) (*Engine, error) { return nil, nil }
+func New(c Config, draw Draw) (*Engine, error) { return newEngine(c, draw) }
 
 // Apply carries out the commands of bytes that come, and tells what has come about (P6).
-func (e *Engine) Apply(text string) string { return "" }
+func (e *Engine) Apply(text string) string {
+	e.takeBytes(text)
+	return e.told.handOut()
+}
 
 // Orders tells how all orders stand (P14).
-func (e *Engine) Orders() []State { return nil }
+func (e *Engine) Orders() []State { return e.states() }
 
 // Average tells the average price of all trades (P14).
-func (e *Engine) Average() float32 { return 0 }
+func (e *Engine) Average() float32 { return e.average() }

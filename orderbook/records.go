@@ -47,3 +47,29 @@ func readRecords(text string) ([]Record, error) {
 	// Growing left spare room: the list is handed out without it.
 	return list[:len(list):len(list)], nil
 }
+
+func appendRecord(text []byte, r Record) []byte {
+	text = appendNumber(text, r.Kind, 1)
+	for _, number := range [...]int{r.Seq, r.ID, r.Other, r.Price, r.Qty} {
+		text = appendNumber(text, number, 4)
+	}
+	return appendNumber(text, r.Reason, 1)
+}
+
+// stream counts records, and holds those that were told until they are handed out.
+type stream struct {
+	seq  int
+	text []byte
+}
+
+func (s *stream) tell(r Record) {
+	s.seq++
+	r.Seq = s.seq
+	s.text = appendRecord(s.text, r)
+}
+
+func (s *stream) handOut() string {
+	text := string(s.text)
+	s.text = nil
+	return text
+}
