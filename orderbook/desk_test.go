@@ -20,6 +20,7 @@ const (
 	iceberg = 2
 	peg     = 3
 
+	day     = 1
 	lasting = 2
 	until   = 3
 )
@@ -137,6 +138,20 @@ func pegOrder(side, id, qty, offset int) command {
 
 func cancelOf(id int) command { return command{2, terms{ID: id}} }
 
+func replaceOf(id, price, qty int) command {
+	return command{3, terms{ID: id, Price: price, Qty: qty}}
+}
+
+func tickOf(time int) command { return command{4, terms{Time: time}} }
+
+func closing() command { return command{Kind: 5} }
+
+// living gives an order another life.
+func living(c command, life, time int) command {
+	c.Life, c.Time = life, time
+	return c
+}
+
 // accepted is what is told of a new order.
 func accepted(c command) record {
 	return record{Kind: 1, ID: c.ID, Other: c.Side, Price: c.Price, Qty: c.Qty, Reason: c.Type}
@@ -152,6 +167,15 @@ func cancelled(id, qty, reason int) record {
 	return record{Kind: 4, ID: id, Qty: qty, Reason: reason}
 }
 
+// replaced is what is told of a replace: reason 1, if the order keeps its place.
+func replaced(c command, reason int) record {
+	return record{Kind: 5, ID: c.ID, Price: c.Price, Qty: c.Qty, Reason: reason}
+}
+
+func moved(id, price, qty int) record { return record{Kind: 7, ID: id, Price: price, Qty: qty} }
+
+func parked(id int) record { return record{Kind: 8, ID: id} }
+
 func shown(id, price, qty int) record { return record{Kind: 6, ID: id, Price: price, Qty: qty} }
 
 // rest lays orders into the book that meet none there.
@@ -164,6 +188,20 @@ func (d *desk) rest(orders ...command) {
 		}
 		d.want(c, accepted(c), shown(c.ID, c.Price, qty))
 	}
+}
+
+// keeps hands in a replace that leaves the order at its place.
+func (d *desk) keeps(id, price, qty int, want ...record) {
+	d.t.Helper()
+	c := replaceOf(id, price, qty)
+	d.want(c, append([]record{replaced(c, 1)}, want...)...)
+}
+
+// loses hands in a replace by which the order loses its place.
+func (d *desk) loses(id, price, qty int, want ...record) {
+	d.t.Helper()
+	c := replaceOf(id, price, qty)
+	d.want(c, append([]record{replaced(c, 0)}, want...)...)
 }
 
 // sweeps hands in an order, and looks what is told of it behind its acceptance.

@@ -7,13 +7,6 @@ import (
 	"strings"
 )
 
-// Why what was open is cancelled.
-const (
-	goneByCancel = iota + 1
-	goneByTime
-	goneByClose
-)
-
 // noDraw stands in where nothing was handed in that draws: all its numbers are 0.
 type noDraw struct{}
 
@@ -29,7 +22,7 @@ func newEngine(c Config, draw Draw) (*Engine, error) {
 	return &Engine{
 		config: c,
 		draw:   draw,
-		live:   map[int]*order{},
+		live:   newRoster(),
 		ended:  map[int]State{},
 		buy:    &buyers{newHalf()},
 		sell:   &sellers{newHalf()},
@@ -51,21 +44,21 @@ func (e *Engine) takeBytes(text string) {
 		} else {
 			e.carryOut(c)
 		}
+		e.layPegs()
 		text = text[size:]
 	}
 	e.waiting = strings.Clone(text)
 }
 
-// carryOut: behind replace, tick and close there is nothing yet.
 func (e *Engine) carryOut(c Command) {
 	table := [...]func(Terms){
-		commandNew:    e.enter,
-		commandCancel: e.cancel,
-		commandClose:  nil,
+		commandNew:     e.enter,
+		commandCancel:  e.cancel,
+		commandReplace: e.replace,
+		commandTick:    e.tick,
+		commandClose:   e.closeDay,
 	}
-	if do := table[c.Kind]; do != nil {
-		do(c.Terms)
-	}
+	table[c.Kind](c.Terms)
 }
 
 func (e *Engine) reject(id, reason int) {
@@ -77,22 +70,12 @@ func (e *Engine) enter(t Terms) {
 		e.reject(t.ID, reason)
 		return
 	}
-	o := &order{Terms: t}
-	e.live[o.ID] = o
+	o := &order{Terms: t, came: e.live.count() + len(e.ended)}
+	e.live.add(o)
 	e.told.tell(Record{Kind: recordAccepted, ID: o.ID, Other: o.Side, Price: o.Price, Qty: o.Qty, Reason: o.Type})
 	if o.Type != typePeg {
 		e.sweep(o)
 	}
-}
-
-func (e *Engine) cancel(t Terms) {
-	o, lives := e.live[t.ID]
-	if !lives {
-		e.reject(t.ID, rejectNoOrder)
-		return
-	}
-	e.told.tell(Record{Kind: recordCancelled, ID: o.ID, Qty: o.open(), Reason: goneByCancel})
-	e.end(o, statusGone)
 }
 
 // sidesOf tells an order's own side, and the other.
@@ -113,7 +96,7 @@ func (e *Engine) sweep(o *order) {
 		}
 		e.trade(o, first)
 	}
-	e.end(o, statusFilled)
+	e.fill(o)
 }
 
 // trade lets an order that sweeps trade with one that rests.
@@ -127,7 +110,7 @@ func (e *Engine) trade(o, resting *order) {
 	resting.shown -= qty
 	switch {
 	case resting.open() == 0:
-		e.end(resting, statusFilled)
+		e.fill(resting)
 	case resting.shown == 0:
 		e.show(resting, e.drawShown(resting))
 	}
@@ -139,27 +122,41 @@ func (e *Engine) drawShown(o *order) int {
 	return min(1+int(drawn), o.open())
 }
 
-// show lets an order rest at the newest place.
+// show lets an order rest, and tells what it shows.
 func (e *Engine) show(o *order, qty int) {
+	e.rest(o, qty)
+	e.told.tell(Record{Kind: recordShown, ID: o.ID, Price: o.Price, Qty: qty})
+}
+
+// rest lays an order into the book at the newest place, be it there already or not.
+func (e *Engine) rest(o *order, qty int) {
 	e.places++
 	o.place = e.places
 	o.shown = qty
 	own, _ := e.sidesOf(o)
 	own.add(o)
-	e.told.tell(Record{Kind: recordShown, ID: o.ID, Price: o.Price, Qty: qty})
 }
 
-// end takes an order out of all that lives; of what has ended, nothing but how it stands is ever asked.
-func (e *Engine) end(o *order, status int) {
+func (e *Engine) takeFromBook(o *order) {
 	own, _ := e.sidesOf(o)
 	own.remove(o)
-	delete(e.live, o.ID)
+	o.shown = 0
+}
+
+func (e *Engine) fill(o *order) {
+	e.live.remove(o)
+	e.layAside(o, statusFilled)
+}
+
+// layAside puts away an order that lives no more: nothing but how it stands is ever asked of it.
+func (e *Engine) layAside(o *order, status int) {
+	e.takeFromBook(o)
 	e.ended[o.ID] = o.state(status)
 }
 
 func (e *Engine) states() []State {
-	list := make([]State, 0, len(e.live)+len(e.ended))
-	for _, o := range e.live {
+	list := make([]State, 0, e.live.count()+len(e.ended))
+	for _, o := range e.live.all() {
 		list = append(list, o.state(statusLive))
 	}
 	for _, s := range e.ended {

@@ -30,12 +30,14 @@ const (
 // order is an order that lives. Of its terms, Price is the price that it has now, Qty its original quantity.
 type order struct {
 	Terms
+	came   int // among all that were accepted: the less, the earlier
 	filled int
 	shown  int // 0 as long as it does not rest
 	place  int // among those that rest: the less, the older
 }
 
-func (o *order) open() int { return o.Qty - o.filled }
+func (o *order) open() int   { return o.Qty - o.filled }
+func (o *order) rests() bool { return o.shown > 0 }
 
 // shownAtRest tells what an order shows that comes to rest.
 func (o *order) shownAtRest() int {
@@ -44,6 +46,14 @@ func (o *order) shownAtRest() int {
 	}
 	return o.open()
 }
+
+// keepsPlace tells whether a replace lets an order keep its place.
+func (o *order) keepsPlace(t Terms) bool {
+	return (o.Type == typePeg || t.Price == o.Price) && t.Qty <= o.Qty
+}
+
+// showWhatIsLeft lets an order that was made less show no more than it has open; an iceberg does not show what it hid.
+func (o *order) showWhatIsLeft() { o.shown = min(o.shown, o.open()) }
 
 func (o *order) state(status int) State {
 	s := State{ID: o.ID, Status: status, Price: o.Price, Filled: o.filled}

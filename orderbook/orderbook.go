@@ -93,7 +93,7 @@ type Engine struct {
 	waiting string // the bytes that have come, and are no whole frame yet
 	told    stream
 
-	live      map[int]*order
+	live      roster
 	ended     map[int]State
 	buy, sell side
 	places    int // how many were taken

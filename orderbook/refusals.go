@@ -41,7 +41,7 @@ func (e *Engine) refusal(t Terms) int {
 		return rejectOffset
 	case !e.timeMayBe(t):
 		return rejectTime
-	case len(e.live) >= e.config.Orders:
+	case e.live.count() >= e.config.Orders:
 		return rejectFull
 	}
 	return 0
@@ -52,7 +52,7 @@ func wordsMayBe(t Terms) bool {
 }
 
 func (e *Engine) wasAccepted(id int) bool {
-	_, lives := e.live[id]
+	_, lives := e.live.find(id)
 	_, ended := e.ended[id]
 	return lives || ended
 }
@@ -62,6 +62,17 @@ func (e *Engine) priceMayBe(kind, price int) bool {
 		return price == 0
 	}
 	return within(price, 1, e.config.MaxPrice)
+}
+
+// changeRefusal tells why a live order is not replaced: 0, if it is.
+func (e *Engine) changeRefusal(o *order, t Terms) int {
+	switch {
+	case !e.priceMayBe(o.Type, t.Price):
+		return rejectPrice
+	case !within(t.Qty, o.filled+1, e.config.MaxQty):
+		return rejectQty
+	}
+	return 0
 }
 
 func (e *Engine) quantityMayBe(t Terms) bool {
