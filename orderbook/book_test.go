@@ -14,6 +14,11 @@ func (m *mixed) below(n int) int {
 	return int(uint64(*m)>>33) % n
 }
 
+func mixedDesk(t *testing.T, m *mixed) *desk {
+	t.Helper()
+	return newDesk(t, config{Orders: 1 + m.below(30), MaxPrice: 52, MaxQty: 50}, m.below(90), -m.below(90), m.below(1<<40))
+}
+
 func mixedCommand(m *mixed, id int) command {
 	side, price, qty := 1+m.below(2), 40+m.below(12), 1+m.below(20)
 	life, time := 1+m.below(3), 0
@@ -75,7 +80,7 @@ func (l *ledger) note(c command, told []record) {
 func TestBookHolds(t *testing.T) {
 	for seed := range 100 {
 		m := mixed(seed)
-		d := newDesk(t, config{Orders: 1 + m.below(30), MaxPrice: 52, MaxQty: 50}, m.below(90), -m.below(90), m.below(1<<40))
+		d := mixedDesk(t, &m)
 		l := &ledger{asked: map[int]terms{}}
 		for id := 1; id <= 300; id++ {
 			c := mixedCommand(&m, id)

@@ -1,9 +1,7 @@
 package orderbook
 
 import (
-	"cmp"
 	"errors"
-	"slices"
 	"strings"
 )
 
@@ -152,18 +150,6 @@ func (e *Engine) fill(o *order) {
 func (e *Engine) layAside(o *order, status int) {
 	e.takeFromBook(o)
 	e.ended[o.ID] = o.state(status)
-}
-
-func (e *Engine) states() []State {
-	list := make([]State, 0, e.live.count()+len(e.ended))
-	for _, o := range e.live.all() {
-		list = append(list, o.state(statusLive))
-	}
-	for _, s := range e.ended {
-		list = append(list, s)
-	}
-	slices.SortFunc(list, func(a, b State) int { return cmp.Compare(a.ID, b.ID) })
-	return list
 }
 
 func (e *Engine) average() float32 {

@@ -1,5 +1,10 @@
 package orderbook
 
+import (
+	"cmp"
+	"slices"
+)
+
 // The sides of orders.
 const (
 	sideBuy = iota + 1
@@ -36,8 +41,15 @@ type order struct {
 	place  int // among those that rest: the less, the older
 }
 
-func (o *order) open() int   { return o.Qty - o.filled }
-func (o *order) rests() bool { return o.shown > 0 }
+func (o *order) open() int { return o.Qty - o.filled }
+
+// rests: a peg rests wherever it has a price; others have theirs before they rest, and show something once they do.
+func (o *order) rests() bool {
+	if o.Type == typePeg {
+		return o.Price != nowhere
+	}
+	return o.shown > 0
+}
 
 // shownAtRest tells what an order shows that comes to rest.
 func (o *order) shownAtRest() int {
@@ -52,8 +64,15 @@ func (o *order) keepsPlace(t Terms) bool {
 	return (o.Type == typePeg || t.Price == o.Price) && t.Qty <= o.Qty
 }
 
-// showWhatIsLeft lets an order that was made less show no more than it has open; an iceberg does not show what it hid.
-func (o *order) showWhatIsLeft() { o.shown = min(o.shown, o.open()) }
+// showWhatIsLeft lets an order that keeps its place show what it has open; an iceberg does not show what it hid.
+func (o *order) showWhatIsLeft() {
+	switch {
+	case o.Type == typeIceberg:
+		o.shown = min(o.shown, o.open())
+	case o.rests():
+		o.shown = o.open()
+	}
+}
 
 func (o *order) state(status int) State {
 	s := State{ID: o.ID, Status: status, Price: o.Price, Filled: o.filled}
@@ -64,4 +83,17 @@ func (o *order) state(status int) State {
 		s.Cancelled = o.open()
 	}
 	return s
+}
+
+// statesByID tells how orders stand, those that live and those that have ended.
+func statesByID(live []*order, ended map[int]State) []State {
+	list := make([]State, 0, len(live)+len(ended))
+	for _, o := range live {
+		list = append(list, o.state(statusLive))
+	}
+	for _, s := range ended {
+		list = append(list, s)
+	}
+	slices.SortFunc(list, func(a, b State) int { return cmp.Compare(a.ID, b.ID) })
+	return list
 }

@@ -83,7 +83,7 @@ func Decode(text string) (Command, int, error) { return decodeFrame(text) }
 func Records(text string) ([]Record, error) { return readRecords(text) }
 
 // Audit tells how all orders stand by the records of a text (P15).
-func Audit(text string) ([]State, error) { return nil, nil }
+func Audit(text string) ([]State, error) { return auditRecords(text) }
 
 // Engine is a book and its orders.
 type Engine struct {
@@ -111,7 +111,7 @@ func (e *Engine) Apply(text string) string {
 }
 
 // Orders tells how all orders stand (P14).
-func (e *Engine) Orders() []State { return e.states() }
+func (e *Engine) Orders() []State { return statesByID(e.live.all(), e.ended) }
 
 // Average tells the average price of all trades (P14).
 func (e *Engine) Average() float32 { return e.average() }

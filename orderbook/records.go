@@ -34,15 +34,24 @@ func readRecord(text string) (Record, error) {
 	}, nil
 }
 
-func readRecords(text string) ([]Record, error) {
+// recordsAhead reads the records ahead of a text's first fault, and tells that fault, if there is one.
+func recordsAhead(text string) ([]Record, error) {
 	var list []Record
 	for len(text) > 0 {
 		record, err := readRecord(text)
 		if err != nil {
-			return nil, &Fault{At: len(list), Err: err}
+			return list, &Fault{At: len(list), Err: err}
 		}
 		list = append(list, record)
 		text = text[recordSize:]
+	}
+	return list, nil
+}
+
+func readRecords(text string) ([]Record, error) {
+	list, err := recordsAhead(text)
+	if err != nil {
+		return nil, err
 	}
 	// Growing left spare room: the list is handed out without it.
 	return list[:len(list):len(list)], nil
